@@ -1,0 +1,1 @@
+"""Keptcode: change a prefix code while all other codewords stay."""
