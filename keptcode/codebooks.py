@@ -14,6 +14,16 @@ def is_whole(thing):
     return isinstance(thing, int) and not isinstance(thing, bool)
 
 
+def is_shape(radix, depth):
+    """Tell whether two things are a radix and a depth."""
+    return is_whole(radix) and radix in RADIXES and is_whole(depth) and depth in DEPTHS
+
+
+def is_length(depth, thing):
+    """Tell whether a thing is an integer from 1 to a depth."""
+    return is_whole(thing) and 1 <= thing <= depth
+
+
 def is_name(thing):
     """Tell whether a thing is a name."""
     if not isinstance(thing, str) or not 1 <= len(thing) <= LONGEST_NAME:
@@ -64,9 +74,9 @@ def is_codeword_list(radix, depth, thing):
 
 def forms_codebook(radix, depth, words, reserved):
     """Tell whether four things form a codebook."""
-    if not is_whole(radix) or radix not in RADIXES or not is_whole(depth) or depth not in DEPTHS:
+    if not is_shape(radix, depth) or not is_word_table(radix, depth, words):
         return False
-    if not is_word_table(radix, depth, words) or not is_codeword_list(radix, depth, reserved):
+    if not is_codeword_list(radix, depth, reserved):
         return False
     return first_clash(list(words.values()) + list(reserved)) is None
 

@@ -12,6 +12,20 @@ FUNCTIONS = {
     "codebooks.py": {"is_name": ["thing"], "is_codeword": ["radix", "depth", "thing"]},
     "text.py": {"format_codebook": ["book"], "parse_codebook": ["text"]},
     "coding.py": {"encode": ["book", "names"], "decode": ["book", "digits"]},
+    "tree.py": {
+        "free_nodes": ["book", "length"],
+        "touched": ["book", "length"],
+        "room": ["book"],
+        "gaps": ["book"],
+    },
+    "packing.py": {"assign": ["book", "request"], "canonical": ["radix", "depth", "lengths"]},
+    "capacity.py": {"loads": ["book", "request", "kept"], "failing_level": ["book", "request", "kept"]},
+    "plans.py": {
+        "is_plan": ["book", "request", "prices", "thing"],
+        "plan_price": ["book", "request", "prices", "plan"],
+        "apply_plan": ["book", "request", "prices", "plan"],
+        "make_plan": ["book", "request", "prices", "recoded"],
+    },
 }
 METHODS = {
     "codebooks.py": {
