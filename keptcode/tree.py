@@ -9,6 +9,15 @@ def taken_nodes(book):
     return list(book.words().values()) + list(book.reserved())
 
 
+def inner_nodes(taken):
+    """Return the list of the root and of all nodes that have taken ones below them, the deepest ones first."""
+    above = {"": True}
+    for node in taken:
+        for prefix in ancestors(node):
+            above[prefix] = True
+    return sorted(above, key=len, reverse=True)
+
+
 def nodes_of_level(radix, level):
     """Return the ascending list of all nodes of a level."""
     nodes = [""]

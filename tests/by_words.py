@@ -137,3 +137,102 @@ def books(radix, depth, most):
                 rest = [node for node in nodes if node not in mine]
                 made.append(Codebook(radix, depth, dict(zip(NAMES, mine)), rest))
     return made
+
+
+def priced(book, request, prices):
+    """The priced names, with their codewords."""
+    return {name: word for name, word in others(book, request).items() if name in prices}
+
+
+def fixed_nodes(book, request, prices):
+    """The codewords of firm names and the reserved strings."""
+    mine = priced(book, request, prices)
+    return [word for name, word in others(book, request).items() if name not in mine] + list(book.reserved())
+
+
+def option_nodes(book, request):
+    """The keys of the dict of options."""
+    ends = [*others(book, request).values(), *book.reserved()]
+    return {""} | {end[:size] for end in ends for size in range(1, len(end) + 1)}
+
+
+def here(node, other):
+    """Whether a node equals another one or is below it."""
+    return node == other or below(node, other)
+
+
+def option(book, node, kept_nodes, price):
+    """The option of a node for all kept codewords and reserved strings."""
+    mine = [other for other in kept_nodes if here(other, node)]
+    counts = []
+    for level in range(len(node), book.depth):
+        # No other nodes than these can have an end below them.
+        inner = {end[:level] for end in mine if len(end[:level]) == level}
+        counts.append(sum(1 for one in inner if here(one, node) and any(below(end, one) for end in mine)))
+    return bool(mine), tuple(counts), price
+
+
+def all_options(book, request, prices, node):
+    """The options of a node for all choices of kept names, as often as they come."""
+    mine = {name: word for name, word in priced(book, request, prices).items() if here(word, node)}
+    found = []
+    for kept in subsets(list(mine)):
+        ends = [mine[name] for name in kept] + fixed_nodes(book, request, prices)
+        found.append(option(book, node, ends, sum(prices[name] for name in mine if name not in kept)))
+    return found
+
+
+def covers(first, second):
+    """Whether an option covers another one."""
+    return (
+        int(first[0]) <= int(second[0]) and first[2] <= second[2]
+        and all(count <= other for count, other in zip(first[1], second[1]))
+    )
+
+
+def uncovered_options(book, request, prices, node):
+    found = set(all_options(book, request, prices, node))
+    return sorted(one for one in found if not any(covers(other, one) for other in found if other != one))
+
+
+def levels_that_fail(book, request, staying):
+    """The levels that fail if these codewords are kept, by the sums of [7]."""
+    fixed = [*staying, *book.reserved()]
+    sizes = [len(end) for end in [*others(book, request).values(), *book.reserved()]] + list(request.values())
+    levels = range(1, book.depth + 1)
+    held = {level: len({end[:level] for end in fixed if len(end) > level}) for level in levels}
+    filled = {level: sum(book.radix ** (level - size) for size in sizes if size <= level) for level in levels}
+    return [level for level in levels if held[level] + filled[level] > book.radix ** level]
+
+
+def plan_sets(book, request, prices):
+    """The sets of recoded names of all plans, with their prices."""
+    words = others(book, request)
+    found = []
+    for recoded in subsets(list(priced(book, request, prices))):
+        staying = [word for name, word in words.items() if name not in recoded]
+        if not levels_that_fail(book, request, staying):
+            found.append((sum(prices[name] for name in recoded), recoded))
+    return found
+
+
+def cheapest_plans(book, request, prices):
+    """The least price and all plans that cheapest may return with it, or None."""
+    found = plan_sets(book, request, prices)
+    if not found:
+        return None
+    least = min(price for price, recoded in found)
+    plans = []
+    for price, recoded in found:
+        if price == least:
+            fixed = [word for name, word in others(book, request).items() if name not in recoded]
+            fixed += book.reserved()
+            plans.append(first_places(book.radix, fixed, wanted_lengths(book, request, recoded)))
+    return least, plans
+
+
+def no_plan_level(book, request, prices):
+    """The smallest level that fails if only the firm names are kept, or None."""
+    firm = [word for name, word in others(book, request).items() if name not in prices]
+    failing = levels_that_fail(book, request, firm)
+    return failing[0] if failing else None
