@@ -26,11 +26,20 @@ FUNCTIONS = {
         "apply_plan": ["book", "request", "prices", "plan"],
         "make_plan": ["book", "request", "prices", "recoded"],
     },
+    "cheapest.py": {"options": ["book", "request", "prices"], "cheapest": ["book", "request", "prices"]},
+    "certificates.py": {"check_certificate": ["book", "request", "prices", "thing", "bar"]},
+    "symmetry.py": {"relabel": ["book", "exchange"], "alike": ["book", "other"]},
+    "confusion.py": {
+        "confusing": ["first", "second"],
+        "confusion_table": ["first", "second"],
+        "check_table": ["first", "second", "thing"],
+    },
+    "moves.py": {"move_order": ["old", "new"], "move_cycle": ["old", "new"]},
 }
 METHODS = {
     "codebooks.py": {
         "Codebook": {
-            "__init__": ["self", "radix", "depth", "words", "reserved"],
+            "__init__": ["self", "radix", "depth", "words", "reserved=()"],
             "words": ["self"],
             "reserved": ["self"],
             "codeword": ["self", "name"],
@@ -46,6 +55,39 @@ METHODS = {
             "copy": ["self"],
         },
     },
+    "history.py": {
+        "History": {
+            "__init__": ["self", "book"],
+            "change": ["self", "request", "prices"],
+            "book": ["self", "version=None"],
+            "__len__": ["self"],
+            "spent": ["self"],
+            "stable": ["self", "first", "second"],
+            "copy": ["self"],
+            "send": ["self", "names", "*", "version=None"],
+            "receive": ["self", "message"],
+        },
+    },
+    "registry.py": {
+        "Registry": {
+            "__init__": ["self"],
+            "create": ["self", "name", "radix", "depth"],
+            "request": ["self", "name", "request", "prices"],
+            "remove": ["self", "name", "word"],
+            "reserve": ["self", "name", "string"],
+            "release": ["self", "name", "string"],
+            "drop": ["self", "name"],
+            "mark": ["self", "label"],
+            "back": ["self", "label"],
+            "batch": ["self", "commands"],
+            "names": ["self"],
+            "book": ["self", "name"],
+            "spent": ["self", "name"],
+            "log": ["self"],
+            "copy": ["self"],
+        },
+    },
+    "shell.py": {"Shell": {"__init__": ["self"], "run": ["self", "line"]}},
 }
 
 
@@ -54,10 +96,8 @@ def parsed(name):
 
 
 def parameters(function):
-    plain = function.args
-    if plain.posonlyargs or plain.kwonlyargs or plain.vararg or plain.kwarg:
-        return None
-    return [parameter.arg for parameter in plain.args]
+    """The parameters of a function, as the interface writes them."""
+    return [] if not ast.unparse(function.args) else ast.unparse(function.args).split(", ")
 
 
 def functions_of(node):
