@@ -34,7 +34,7 @@ def has_certificate_form(depth, nodes, thing):
 
 
 def listed_choices(listed):
-    """Return the elements of a list of a certificate as choices without names."""
+    """Return the options in a list of a certificate as choices without names."""
     found = {}
     for present, counts, price in listed:
         key = (present, counts)
@@ -44,14 +44,14 @@ def listed_choices(listed):
 
 
 def covers_all(listed, choices):
-    """Tell whether each option of some choices is covered by an element of a list."""
-    # The options of an honest certificate are mostly elements themselves, which takes no search.
+    """Tell whether each option of some choices is covered by one in a list."""
+    # The options of an honest certificate are mostly listed themselves, which takes no search.
     known = {element: True for element in listed}
     return all([option in known or is_covered(option, listed) for option in options_of(choices)])
 
 
 def keeps_inner_rule(book, certificate, node):
-    """Tell whether the list of an inner node covers all combinations of elements of its children's lists."""
+    """Tell whether the list of an inner node covers all combinations of the options in its children's lists."""
     choices = nothing_below(book.depth - len(node) - 1)
     for child in children(book.radix, certificate, node):
         choices = combined(choices, listed_choices(certificate[child]))
@@ -59,7 +59,7 @@ def keeps_inner_rule(book, certificate, node):
 
 
 def keeps_root_rule(spare, listed, bar):
-    """Tell whether each element of the root's list with which no level fails has at least the price of the bar."""
+    """Tell whether each option in the root's list with which no level fails has at least the price of the bar."""
     fitting = [price for _, counts, price in listed if fits(counts, spare)]
     if bar is None:
         return not fitting

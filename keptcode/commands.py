@@ -64,7 +64,7 @@ def reserve(shelf, name, string):
     book, spent = held(shelf, name)
     if not is_codeword(book.radix, book.depth, string) or string not in free_nodes(book, len(string)):
         raise NotFree("the string is not a free node")
-    reserved = [*book.reserved(), string]
+    reserved = list(book.reserved()) + [string]
     shelf.holdings[name] = (Codebook(book.radix, book.depth, book.words(), reserved), spent)
 
 
